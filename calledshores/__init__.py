@@ -1,1 +1,1 @@
-"""Calls that are answered: callers at sea, and what they know to be heard."""
+"""Calls that are answered: callers at sea, the shore that keeps what it hears, and what they tell one another."""

@@ -42,6 +42,43 @@ def state(caller):
     return [8, caller]
 
 
+def shore_start():
+    return [9, 0]
+
+
+def shore_hear(message):
+    return [10, 0, len(message)] + list(message)
+
+
+def shore_answer(k):
+    return [11, 0, k]
+
+
+def get(i):
+    return [12, 0, i]
+
+
+def find(k, i):
+    return [13, 0, k, i]
+
+
+def kept_of(k):
+    return [14, 0, k]
+
+
+def gaps(k):
+    return [15, 0, k]
+
+
+def shore_state():
+    return [16, 0]
+
+
+def call_of(k, number, kind=1, x=0, y=0):
+    """The message by which caller k tells its call of this number."""
+    return [1, k, number, kind, x, y]
+
+
 def answer_to(me, all_there, bits=0):
     """The message that answers the caller whose number is me."""
     return [2, me, all_there, bits, 0, 0]
@@ -65,6 +102,7 @@ def split(given):
 
 def ask(calls):
     """The answer to each of the calls."""
+    assert 1 <= len(calls) <= 1000, "no such list may be handed in"
     return split(answers(flat(calls)))
 
 
@@ -86,6 +124,16 @@ def heard_as_called(count, caller=0, me=0):
     return calls
 
 
+def differing(k, number):
+    """Caller k's call of this number, with two numbers that no other one made here has."""
+    return call_of(k, number, 1 + (k + number) % 9, 1000 * k + number, 500000 + 1000 * k + number)
+
+
+def shore_hears(k, numbers):
+    """The shore hears these calls of caller k, in this order."""
+    return [shore_hear(differing(k, number)) for number in numbers]
+
+
 def probe(caller):
     """Calls whose answers show all that a caller keeps: first what only looks, then what changes."""
     calls = [state(caller), open_ones(caller)]
@@ -97,11 +145,36 @@ def probe(caller):
     return calls + [say(caller, 9, 7, 8), tell(caller), open_ones(caller), state(caller)]
 
 
-def check_refused(test, before, call, refusal, probed=(0,)):
-    """After the calls before, the call is answered with the refusal alone, and leaves all as it was."""
-    rest = [one for caller in probed for one in probe(caller)]
+def shore_looks():
+    """Calls whose answers show all that the shore keeps, and which change nothing."""
+    calls = [shore_state()] + [get(i) for i in range(121)]
+    for k in range(4):
+        calls += [shore_answer(k), kept_of(k), gaps(k)] + [find(k, number) for number in range(31)]
+    return calls
+
+
+def shore_probe():
+    """Calls whose answers show all that the shore keeps: first what only looks, then what changes."""
+    calls = shore_looks()
+    for k in range(4):
+        calls += shore_hears(k, range(0, 30, 4))
+    return calls + shore_looks()
+
+
+def check_refused(test, before, call, refusal):
+    """After the calls before, the call on caller 0 is answered with the refusal alone, and leaves all as it was."""
+    check_leaves_all(test, before, call, [refusal], probe(0))
+
+
+def check_shore_refused(test, before, call, refusal):
+    """After the calls before, the call on the shore is answered with the refusal alone, and leaves all as it was."""
+    check_leaves_all(test, before, call, [refusal], shore_probe())
+
+
+def check_leaves_all(test, before, call, answer, rest):
+    """After the calls before, the call is answered so, and the rest behind it as if the call weren't there."""
     with_call = ask(before + [call] + rest)
     without_call = ask(before + rest)
-    test.assertEqual(with_call[len(before)], [refusal])
+    test.assertEqual(with_call[len(before)], answer)
     test.assertEqual(with_call[:len(before)], without_call[:len(before)])
     test.assertEqual(with_call[len(before) + 1:], without_call[len(before):])

@@ -87,6 +87,27 @@ class LanguageTest(unittest.TestCase):
                 if isinstance(node, ast.Call) and isinstance(node.func, ast.Attribute):
                     self.assertIn(node.func.attr, own | OWN_METHODS)
 
+    def test_no_name_is_a_method_here_and_a_value_there(self):
+        methods, values = set(), set()
+        for path in FILES:
+            for node in nodes(path):
+                if isinstance(node, ast.ClassDef):
+                    methods |= {part.name for part in node.body if isinstance(part, ast.FunctionDef)}
+                if isinstance(node, ast.Attribute) and isinstance(node.ctx, ast.Store):
+                    values.add(node.attr)
+        self.assertEqual(methods & values, set())
+
+    def test_each_name_is_bound_once_at_the_top_and_no_local_has_the_name_of_a_class(self):
+        for path in FILES:
+            top = ast.parse(path.read_text(encoding="utf-8")).body
+            bound = [part.name for part in top if isinstance(part, (ast.FunctionDef, ast.ClassDef))]
+            bound += [part.targets[0].id for part in top if isinstance(part, ast.Assign)]
+            self.assertEqual(len(set(bound)), len(bound), path)
+            classes = {part.name for part in top if isinstance(part, ast.ClassDef)}
+            for node in nodes(path):
+                stored = isinstance(node, ast.Name) and isinstance(node.ctx, ast.Store) and node.id
+                self.assertNotIn(stored or getattr(node, "arg", None), classes)
+
 
 if __name__ == "__main__":
     unittest.main()
